@@ -1,6 +1,7 @@
 package tests
 
 import (
+	"fmt"
 	"strings"
 	"testing"
 	"unsafe"
@@ -11,8 +12,18 @@ import (
 func same[T comparable](t *testing.T, what string, got T, want T) {
 	t.Helper()
 	if got != want {
-		t.Errorf("%s: got %+v, want %+v", what, got, want)
+		t.Errorf("%s: got %s, want %s", what, shown(got), shown(want))
 	}
+}
+
+// shown quotes what bytes there are, and cuts off what would hide the other failures.
+func shown(v any) string {
+	const most = 200
+	s := fmt.Sprintf("%#v", v)
+	if len(s) > most {
+		return s[:most] + ".."
+	}
+	return s
 }
 
 // filled is a text of that many bytes that is not the same byte all along, so that a shifted one differs.
