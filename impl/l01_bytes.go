@@ -179,8 +179,12 @@ func smallLetter(c byte) bool {
 	return c >= 'a' && c <= 'z'
 }
 
+func digit(c byte) bool {
+	return c >= '0' && c <= '9'
+}
+
 func nameByte(c byte) bool {
-	return smallLetter(c) || c >= '0' && c <= '9' || c == '_'
+	return smallLetter(c) || digit(c) || c == '_'
 }
 
 // NameRight: see chapter 2.

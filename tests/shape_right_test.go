@@ -183,6 +183,11 @@ func TestShapeSameEnds(t *testing.T) {
 	}
 	same(t, "many places", impl.ShapeSame(a, b), true)
 	same(t, "many places, one unlike", impl.ShapeSame(a, c), false)
+	shared := list(num)
+	for what, other := range map[string]impl.Shape{"first": rec(list(text), list(num)), "last": rec(list(num), list(text))} {
+		same(t, "one in two places, and another one "+what, impl.ShapeSame(rec(shared, shared), other), false)
+		same(t, "the other way round, "+what, impl.ShapeSame(other, rec(shared, shared)), false)
+	}
 }
 
 func TestShapesAreNotChanged(t *testing.T) {
