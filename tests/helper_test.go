@@ -49,4 +49,34 @@ func times(b string, n int) string {
 	return strings.Repeat(b, n)
 }
 
+// putTogether is whatever can be put together of 1 to most pieces.
+func putTogether(pieces []string, most int) []string {
+	out := []string{}
+	last := []string{""}
+	for range most {
+		next := []string{}
+		for _, text := range last {
+			for _, piece := range pieces {
+				next = append(next, text+piece)
+			}
+		}
+		last = next
+		out = append(out, last...)
+	}
+	return out
+}
+
+// turned is what comes of a text where it begins later or ends earlier, or where one byte is another one of these, goes, or comes.
+func turned(text string, bytes string) []string {
+	out := []string{}
+	for at := range len(text) {
+		ahead, behind := text[:at], text[at+1:]
+		out = append(out, ahead, behind, ahead+behind)
+		for i := range len(bytes) {
+			out = append(out, ahead+bytes[i:i+1]+behind, ahead+bytes[i:i+1]+text[at:])
+		}
+	}
+	return out
+}
+
 var tooLong = filled(impl.MaxBytes + 1)

@@ -173,19 +173,9 @@ func readsAsSaid(t *testing.T, text string) bool {
 func TestShortTexts(t *testing.T) {
 	pieces := []string{"num", "pick(", "list(", "rec(", "rec", "(", ")", ",", ":", "a", "b"}
 	right := 0
-	texts := []string{""}
-	for range 5 {
-		next := []string{}
-		for _, text := range texts {
-			for _, piece := range pieces {
-				next = append(next, text+piece)
-			}
-		}
-		texts = next
-		for _, text := range texts {
-			if readsAsSaid(t, text) {
-				right++
-			}
+	for _, text := range putTogether(pieces, 5) {
+		if readsAsSaid(t, text) {
+			right++
 		}
 	}
 	same(t, "enough right ones", right > 50, true)
@@ -202,14 +192,8 @@ func TestTurnedTexts(t *testing.T) {
 	}
 	for _, text := range texts {
 		same(t, "unturned", readsAsSaid(t, text), true)
-		for at := range len(text) {
-			readsAsSaid(t, text[:at])
-			readsAsSaid(t, text[at+1:])
-			readsAsSaid(t, text[:at]+text[at+1:])
-			for _, b := range []byte("abz`{A0_*(),: \n\x00\xff") {
-				readsAsSaid(t, text[:at]+string([]byte{b})+text[at+1:])
-				readsAsSaid(t, text[:at]+string([]byte{b})+text[at:])
-			}
+		for _, wrong := range turned(text, "abz`{A0_*(),: \n\x00\xff") {
+			readsAsSaid(t, wrong)
 		}
 	}
 }

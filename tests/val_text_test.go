@@ -253,19 +253,9 @@ func TestShortValTexts(t *testing.T) {
 		{list(maybe(text)), []string{"[", "]", ",", "none", `some("`, `")`, "a,b"}, 6, 36},
 	} {
 		right := 0
-		texts := []string{""}
-		for range c.most {
-			next := []string{}
-			for _, text := range texts {
-				for _, piece := range c.pieces {
-					next = append(next, text+piece)
-				}
-			}
-			texts = next
-			for _, text := range texts {
-				if valReadsAsSaid(t, c.shape, text) {
-					right++
-				}
+		for _, text := range putTogether(c.pieces, c.most) {
+			if valReadsAsSaid(t, c.shape, text) {
+				right++
 			}
 		}
 		same(t, "right ones of "+written(c.shape), right, c.right)
@@ -283,14 +273,8 @@ func TestTurnedValTexts(t *testing.T) {
 		}
 		found++
 		same(t, "unturned", valReadsAsSaid(t, s, text), true)
-		for at := range len(text) {
-			valReadsAsSaid(t, s, text[:at])
-			valReadsAsSaid(t, s, text[at+1:])
-			valReadsAsSaid(t, s, text[:at]+text[at+1:])
-			for _, b := range []byte("anosy019A\"()[],: \n\x00\x1f~\x7f\xff") {
-				valReadsAsSaid(t, s, text[:at]+string([]byte{b})+text[at+1:])
-				valReadsAsSaid(t, s, text[:at]+string([]byte{b})+text[at:])
-			}
+		for _, wrong := range turned(text, "anosy019A\"()[],: \n\x00\x1f~\x7f\xff") {
+			valReadsAsSaid(t, s, wrong)
 		}
 	}
 }

@@ -223,13 +223,18 @@ func valStretches(v impl.Val, what string) []stretch {
 	return out
 }
 
-// sizedVal fits lists(4) of texts, and its text has that many bytes, of 4405 to 30000.
+// sizedVal fits textLists, and its text has that many bytes, of 4405 to 30000.
 func sizedVal(size int) impl.Val {
+	return sizedBy(size, valWritten)
+}
+
+// sizedBy fits textLists, and what is made of it has that many bytes.
+func sizedBy(size int, made func(s impl.Shape, v impl.Val) string) impl.Val {
 	v := textVal("")
 	for range 4 {
 		v = listVal(many(v, 6)...)
 	}
-	more := size - len(valWritten(textLists, v))
+	more := size - len(made(textLists, v))
 	for _, one := range valsOf(&v) {
 		if one.Kind == impl.ShText {
 			one.T = filledText(min(more, 20))
