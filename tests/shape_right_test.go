@@ -131,7 +131,7 @@ func wrongShapes() map[string]impl.Shape {
 
 func TestWrongShapes(t *testing.T) {
 	for what, s := range wrongShapes() {
-		for where, s := range map[string]impl.Shape{"": s, "in a list: ": list(s), "in a maybe: ": maybe(s), "in a record: ": rec(num, s), "far in: ": rec(num, list(maybe(rec(s))))} {
+		for where, s := range putAround(s) {
 			same(t, where+what, sizesOf(s), sizes{})
 			same(t, where+what, impl.ShapeText(s), "")
 		}

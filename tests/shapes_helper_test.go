@@ -93,6 +93,11 @@ func sized(size int) impl.Shape {
 	return s
 }
 
+// putAround is a shape alone, and in others.
+func putAround(s impl.Shape) map[string]impl.Shape {
+	return map[string]impl.Shape{"": s, "in a list: ": list(s), "in a maybe: ": maybe(s), "in a record: ": rec(num, s), "far in: ": rec(num, list(maybe(rec(s))))}
+}
+
 // written is the text of a right shape, put together beside the program.
 func written(s impl.Shape) string {
 	switch s.Kind {
