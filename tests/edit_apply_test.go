@@ -285,21 +285,8 @@ func TestEditTooDeep(t *testing.T) {
 func TestSmallEdits(t *testing.T) {
 	codes := map[int64]int{}
 	for _, s := range smallShapes() {
-		for _, steps := range []string{"", "a", "*", "a*"} {
-			for _, at := range []int64{0, 1, 2, 5} {
-				for _, name := range []string{"a", "b", "z"} {
-					codes[editsAsBeside(t, s, addOf(steps, at, name, list(num)))]++
-					codes[editsAsBeside(t, s, dropOf(steps, at, name, num))]++
-					codes[editsAsBeside(t, s, nameOf(steps, name, letter(int(at))))]++
-					codes[editsAsBeside(t, s, symOf(steps, at, name))]++
-					codes[editsAsBeside(t, s, unsymOf(steps, at, name))]++
-				}
-			}
-			for _, kind := range []int64{impl.EdMaybe, impl.EdSure, impl.EdList, impl.EdOne} {
-				codes[editsAsBeside(t, s, bareOf(kind, steps))]++
-			}
-			codes[editsAsBeside(t, s, setOf(steps, text, num))]++
-			codes[editsAsBeside(t, s, setOf(steps, num, pick("b", "a")))]++
+		for _, e := range smallEdits() {
+			codes[editsAsBeside(t, s, e)]++
 		}
 	}
 	for _, code := range []int64{impl.OK, impl.ErrNone, impl.ErrThere, impl.ErrRange, impl.ErrState} {

@@ -21,9 +21,12 @@ func refusedEdit(t *testing.T, what string, e impl.Edit) {
 	same(t, what+": EditRight", impl.EditRight(e), false)
 	same(t, what+": EditText", impl.EditText(e), "")
 	sameEdit(t, what+": EditBack", impl.EditBack(e), impl.Edit{})
+	same(t, what+": Loses", impl.Loses(e), false)
 	for _, s := range []impl.Shape{num, pick("red", "green"), rec(list(rec(num, text)), num), lists(4), {}, pick()} {
 		tells(t, what+": EditApply", impl.EditApply(s, e), impl.ErrForm)
 		tells(t, what+": EditsApply", impl.EditsApply(s, []impl.Edit{e}), impl.ErrForm)
+		notCarried(t, what+": Carry", s, e, impl.Blank(s), impl.Blank(s), true, impl.ErrForm)
+		notCarried(t, what+": Carry", s, e, impl.Blank(s), impl.Blank(s), false, impl.ErrForm)
 	}
 	right := bareOf(impl.EdMaybe, "")
 	for _, l := range [][]impl.Edit{{e}, {e, right}, {right, e}, {right, right, e, right}, {e, e}} {

@@ -297,6 +297,23 @@ func undoneAndDone(t *testing.T, what string, s impl.Shape, e impl.Edit, changed
 	sameShapeOut(t, what+", undone and done", impl.EditsApply(changed, []impl.Edit{back, e}), impl.ShapeOut{Shape: changed})
 }
 
+// smallEdits is whatever right edit can be put together of a few pieces.
+func smallEdits() []impl.Edit {
+	out := []impl.Edit{}
+	for _, steps := range []string{"", "a", "*", "a*"} {
+		for _, at := range []int64{0, 1, 2, 5} {
+			for _, name := range []string{"a", "b", "z"} {
+				out = append(out, addOf(steps, at, name, list(num)), dropOf(steps, at, name, num), nameOf(steps, name, letter(int(at))), symOf(steps, at, name), unsymOf(steps, at, name))
+			}
+		}
+		for _, kind := range []int64{impl.EdMaybe, impl.EdSure, impl.EdList, impl.EdOne} {
+			out = append(out, bareOf(kind, steps))
+		}
+		out = append(out, setOf(steps, text, num), setOf(steps, num, pick("b", "a")))
+	}
+	return out
+}
+
 // someWord is one that stands there, or any.
 func someWord(random *rand.Rand, there []string) string {
 	if len(there) > 0 && random.Intn(2) == 0 {
