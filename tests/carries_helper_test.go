@@ -88,6 +88,11 @@ func partCarriedBy(s impl.Shape, e impl.Edit, v impl.Val, olds ...impl.Val) impl
 	return v
 }
 
+// losesBy takes a right edit, and tells beside the program whether it loses.
+func losesBy(e impl.Edit) bool {
+	return []bool{false, false, true, false, false, true, false, true, false, true, true}[e.Kind]
+}
+
 // carriesAs holds Carry, where it tells no fault, against what it should tell, and holds promise 9.
 func carriesAs(t *testing.T, s impl.Shape, e impl.Edit, v impl.Val, want impl.Val, olds ...impl.Val) {
 	t.Helper()

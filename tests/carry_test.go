@@ -370,7 +370,7 @@ func TestSomeCarries(t *testing.T) {
 
 func TestLoses(t *testing.T) {
 	for _, e := range oneOfEachKind() {
-		want := []bool{false, false, true, false, false, true, false, true, false, true, true}[e.Kind]
+		want := losesBy(e)
 		same(t, editWritten(e), impl.Loses(e), want)
 		// What it can change is not asked, but what is not right loses nothing.
 		e.Path = path("zzzzz")

@@ -57,6 +57,26 @@ func oneOfEachKind() []impl.Edit {
 	}[impl.EdAdd:]
 }
 
+// wrongTurns is what makes an edit one that is not right, whatever its Kind is.
+func wrongTurns() map[string]func(e *impl.Edit) {
+	return map[string]func(e *impl.Edit){
+		"kind 0":             func(e *impl.Edit) { e.Kind = 0 },
+		"kind 11":            func(e *impl.Edit) { e.Kind = impl.EdSet + 1 },
+		"kind beyond 8":      func(e *impl.Edit) { e.Kind += 256 },
+		"a wrong step":       func(e *impl.Edit) { e.Path = []string{"A"} },
+		"six steps":          func(e *impl.Edit) { e.Path = path("******") },
+		"many steps":         func(e *impl.Edit) { e.Path = manySteps[:impl.MaxList+1] },
+		"at -1":              func(e *impl.Edit) { e.At = -1 },
+		"at 6":               func(e *impl.Edit) { e.At = impl.MaxFields },
+		"a wrong Name":       func(e *impl.Edit) { e.Name = "A" },
+		"a wrong To":         func(e *impl.Edit) { e.To = "a1" },
+		"a Name too long":    func(e *impl.Edit) { e.Name = tooLong },
+		"a wrong Shape":      func(e *impl.Edit) { e.Shape = pick() },
+		"a wrong Was":        func(e *impl.Edit) { e.Was = ring(impl.ShList) },
+		"a Shape of no Kind": func(e *impl.Edit) { e.Shape = impl.Shape{Syms: []string{"a"}} },
+	}
+}
+
 func editAlike(a impl.Edit, b impl.Edit) bool {
 	return a.Kind == b.Kind && slices.Equal(a.Path, b.Path) && a.At == b.At && a.Name == b.Name && a.To == b.To && alike(a.Shape, b.Shape) && alike(a.Was, b.Was)
 }
