@@ -22,6 +22,7 @@ func refusedEdit(t *testing.T, what string, e impl.Edit) {
 	same(t, what+": EditText", impl.EditText(e), "")
 	sameEdit(t, what+": EditBack", impl.EditBack(e), impl.Edit{})
 	same(t, what+": Loses", impl.Loses(e), false)
+	same(t, what+": Cost", impl.Cost([]impl.Edit{e}), -1)
 	for _, s := range []impl.Shape{num, pick("red", "green"), rec(list(rec(num, text)), num), lists(4), {}, pick()} {
 		tells(t, what+": EditApply", impl.EditApply(s, e), impl.ErrForm)
 		tells(t, what+": EditsApply", impl.EditsApply(s, []impl.Edit{e}), impl.ErrForm)
